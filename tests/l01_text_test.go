@@ -19,6 +19,21 @@ func allBytes() string {
 	return string(all)
 }
 
+// textsUpTo are all texts of up to n bytes from an alphabet.
+func textsUpTo(n int, alphabet string) []string {
+	texts := []string{""}
+	for range n {
+		next := []string{""}
+		for _, s := range texts {
+			for _, b := range []byte(alphabet) {
+				next = append(next, s+string([]byte{b}))
+			}
+		}
+		texts = next
+	}
+	return texts
+}
+
 func TestFormatInt(t *testing.T) {
 	cases := []struct {
 		n    int
@@ -70,17 +85,7 @@ func TestParseIntAcceptsOnlyFormatInt(t *testing.T) {
 	for n := -99; n <= 999; n++ {
 		written[impl.FormatInt(n)] = n
 	}
-	texts := []string{""}
-	for range 3 {
-		next := []string{""}
-		for _, s := range texts {
-			for _, b := range []byte("-+_ .019x\xc3") {
-				next = append(next, s+string([]byte{b}))
-			}
-		}
-		texts = next
-	}
-	for _, s := range texts {
+	for _, s := range textsUpTo(3, "-+_ .019x\xc3") {
 		want, wanted := written[s]
 		if n, ok := impl.ParseInt(s); n != want || ok != wanted {
 			t.Errorf("ParseInt(%q) is %d, %v, not %d, %v", s, n, ok, want, wanted)

@@ -514,17 +514,7 @@ func TestParseRatRefuses(t *testing.T) {
 // TestParseRatAcceptsOnlyFormatRat tries all texts of up to four bytes from an
 // alphabet of the bytes that matter.
 func TestParseRatAcceptsOnlyFormatRat(t *testing.T) {
-	texts := []string{""}
-	for range 4 {
-		next := []string{""}
-		for _, s := range texts {
-			for _, b := range []byte("-/0123 +") {
-				next = append(next, s+string([]byte{b}))
-			}
-		}
-		texts = next
-	}
-	for _, s := range texts {
+	for _, s := range textsUpTo(4, "-/0123 +") {
 		want := false
 		// math/big accepts more texts, but writes only the one in lowest terms.
 		value, read := new(big.Rat).SetString(s)
