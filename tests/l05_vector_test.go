@@ -438,14 +438,18 @@ func TestVectorLimit(t *testing.T) {
 	}
 }
 
-// TestInnerProductOrder is about sums that are too large in one order only.
-func TestInnerProductOrder(t *testing.T) {
+// sumInOrder is the text of an inner product, or the empty text if a sum on the
+// way is too large.
+type sumInOrder struct {
+	a, b []string
+	want string
+}
+
+// sumsInOrder are sums that are too large in one order only.
+func sumsInOrder() []sumInOrder {
 	most := impl.FormatRat(ratio(plus(greatest(24)...), 1))
 	tiny := "1/" + most
-	cases := []struct {
-		a, b []string
-		want string
-	}{
+	return []sumInOrder{
 		{[]string{"-1", most, "1"}, []string{"1", "1", "1"}, most},
 		{[]string{"1", most, "-1"}, []string{"1", "1", "1"}, ""},
 		{[]string{most, "1", "-1"}, []string{"1", "1", "1"}, ""},
@@ -463,7 +467,10 @@ func TestInnerProductOrder(t *testing.T) {
 		{[]string{most, "0"}, []string{tiny, most}, "1"},
 		{[]string{"0", most, "0"}, []string{most, "0", "-" + most}, "0"},
 	}
-	for i, c := range cases {
+}
+
+func TestInnerProductOrder(t *testing.T) {
+	for i, c := range sumsInOrder() {
 		for _, pair := range [][2][]string{{c.a, c.b}, {c.b, c.a}} {
 			got, ok := impl.InnerProduct(vectorOf(pair[0]...), vectorOf(pair[1]...))
 			if ok != (c.want != "") || impl.FormatRat(got) != c.want || !ok && !isZeroRat(got) {
