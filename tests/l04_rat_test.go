@@ -42,7 +42,11 @@ func isRat(got impl.Rat, want *big.Rat) bool {
 // lowest is the fraction of two numbers of at most MaxRat limbs, in lowest
 // terms without the program's division.
 func lowest(num impl.BigInt, den []int) impl.Rat {
-	r := new(big.Rat).SetFrac(signedBig(num), toBig(den))
+	return ratOfBig(new(big.Rat).SetFrac(signedBig(num), toBig(den)))
+}
+
+// ratOfBig is not valid if r is too large.
+func ratOfBig(r *big.Rat) impl.Rat {
 	return impl.Rat{Num: impl.BigInt{Neg: r.Sign() < 0, Mag: limbsOf(r.Num())}, Den: limbsOf(r.Denom())}
 }
 

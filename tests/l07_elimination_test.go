@@ -239,14 +239,19 @@ func mustRefuseElimination(t *testing.T, m impl.Matrix) {
 	}
 }
 
-// sparseMatrix has many zeros, and few different other elements.
-func sparseMatrix(random *rand.Rand, rows, cols int) impl.Matrix {
-	texts := []string{"0", "0", "0", "0", "1", "-1", "2", "-3", "1/2"}
+// chosen is a matrix of elements with these texts.
+func chosen(random *rand.Rand, rows, cols int, texts []string) impl.Matrix {
 	cells := make([]string, rows*cols)
 	for i := range cells {
 		cells[i] = texts[random.Intn(len(texts))]
 	}
 	return filled(rows, cols, vectorOf(cells...))
+}
+
+// sparseMatrix has many zeros, and few different other elements.
+func sparseMatrix(random *rand.Rand, rows, cols int) impl.Matrix {
+	texts := []string{"0", "0", "0", "0", "1", "-1", "2", "-3", "1/2"}
+	return chosen(random, rows, cols, texts)
 }
 
 // matrixOfRank is a product over the rank, which is hardly ever less.
@@ -282,11 +287,7 @@ func powerText(n int) string {
 // steepMatrix has elements whose products are often too large.
 func steepMatrix(random *rand.Rand, rows, cols int) impl.Matrix {
 	texts := []string{"0", "0", "0", "1", "-1", powerText(11), powerText(12), powerText(-12), "-" + powerText(-11), "1/1" + powerText(7)}
-	cells := make([]string, rows*cols)
-	for i := range cells {
-		cells[i] = texts[random.Intn(len(texts))]
-	}
-	return filled(rows, cols, vectorOf(cells...))
+	return chosen(random, rows, cols, texts)
 }
 
 // eachSquare calls try with square matrices, of which many are singular. Of
@@ -851,6 +852,16 @@ func eliminationResults(m impl.Matrix, v []impl.Rat) [][]impl.Rat {
 	return append(vectors, reduced.Cells, []impl.Rat{{Den: pivots}}, []impl.Rat{determinant}, inverse.Cells, solution)
 }
 
+// uniformLists are lists of n equal elements each, also of such that are not
+// valid, and the empty list.
+func uniformLists(n int) [][]impl.Rat {
+	lists := [][]impl.Rat{nil}
+	for _, r := range []impl.Rat{impl.RatFromInt(0), impl.RatOf(-3, 2), impl.RatFromInt(1), {}} {
+		lists = append(lists, repeatedRat(n, r))
+	}
+	return lists
+}
+
 // TestEliminationMemory checks that neither the arguments, with the room behind
 // them, nor the other results change when results are spoiled.
 func TestEliminationMemory(t *testing.T) {
@@ -864,7 +875,7 @@ func TestEliminationMemory(t *testing.T) {
 	}
 	for _, x := range matrices {
 		n := max(x.Rows, 0)
-		for _, z := range [][]impl.Rat{nil, repeatedRat(n, impl.RatFromInt(0)), repeatedRat(n, impl.RatOf(-3, 2)), repeatedRat(n, impl.RatFromInt(1)), repeatedRat(n, impl.Rat{})} {
+		for _, z := range uniformLists(n) {
 			m, v := matrixWithRoom(x), vectorWithRoom(z)
 			rank := impl.RankOf(m)
 			mustBeApart(t, eliminationResults(m, v), eliminationResults(clonedMatrix(x), clonedVector(z)))
@@ -875,13 +886,21 @@ func TestEliminationMemory(t *testing.T) {
 	}
 }
 
+// sharedMatrices have elements whose lists are one list.
+func sharedMatrices() []impl.Matrix {
+	unit := []int{1}
+	one, zero := impl.Rat{Num: impl.BigInt{Mag: unit}, Den: unit}, impl.Rat{Den: unit}
+	cells := []impl.Rat{one, zero, one, zero, one, zero, zero, zero, one}
+	return []impl.Matrix{
+		filled(3, 3, cells), filled(2, 3, cells[:6]), filled(3, 3, []impl.Rat{one, zero, zero, zero, one, zero, zero, zero, one}), filled(2, 2, []impl.Rat{one, zero, zero, one}),
+		filled(3, 3, slices.Repeat([]impl.Rat{one}, 9)), filled(1, 1, []impl.Rat{one}), filled(24, 24, slices.Repeat([]impl.Rat{impl.RatOf(-5, 2)}, 576)),
+	}
+}
+
 // TestEliminationSameArgument gives a row of a matrix as the right side, and
 // elements whose lists are one list.
 func TestEliminationSameArgument(t *testing.T) {
-	unit := []int{1}
-	one, zero := impl.Rat{Num: impl.BigInt{Mag: unit}, Den: unit}, impl.Rat{Den: unit}
-	shared := filled(3, 3, []impl.Rat{one, zero, one, zero, one, zero, zero, zero, one})
-	for _, m := range []impl.Matrix{shared, filled(2, 3, shared.Cells[:6]), filled(3, 3, slices.Repeat([]impl.Rat{one}, 9)), filled(1, 1, []impl.Rat{one}), filled(24, 24, slices.Repeat([]impl.Rat{impl.RatOf(-5, 2)}, 576)), written(2, 2, "1 2 -1/3 0")} {
+	for _, m := range append(sharedMatrices(), written(2, 2, "1 2 -1/3 0")) {
 		x := clonedMatrix(m)
 		mustBeApart(t, eliminationResults(m, rowIn(m, m.Rows-1)), eliminationResults(clonedMatrix(x), clonedVector(rowIn(x, x.Rows-1))))
 		if !sameMatrix(m, x) {
