@@ -927,43 +927,56 @@ func TestLeastOf(t *testing.T) {
 	}
 }
 
-// TestSolveWrongPrograms has programs that are not valid, by their sizes, the
-// lengths of their lists, and each of their numbers.
-func TestSolveWrongPrograms(t *testing.T) {
+// eachWrongProgram calls try with programs that are not valid: by numbers of rows
+// and columns, and, for these sizes, by the lengths of the lists and by each of
+// the numbers.
+func eachWrongProgram(sizes [][2]int, try func(p impl.Program)) {
 	for _, rows := range append(wrongNumbers(20), 0, 1, 20) {
 		for _, cols := range append(wrongNumbers(40), 0, 1, 40) {
 			if rows >= 0 && rows <= 20 && cols >= 0 && cols <= 40 {
 				continue
 			}
-			mustRefuseToSolve(t, programOf(rows, cols, nil, nil, nil))
+			try(programOf(rows, cols, nil, nil, nil))
 			// Numbers as long as their product says are made where they can be.
 			if rows >= 0 && cols >= 0 && rows <= 1000 && cols <= 1000 {
-				mustRefuseToSolve(t, constantProgram(rows, cols, 0))
+				try(constantProgram(rows, cols, 0))
 			}
 		}
 	}
-	for _, size := range [][2]int{{0, 0}, {1, 1}, {2, 3}, {1, 40}, {20, 1}, {20, 40}} {
-		p := constantProgram(size[0], size[1], 1)
+	for _, size := range sizes {
+		p := constantProgram(size[0], size[1], -1)
 		for _, list := range []*[]int{&p.A, &p.B, &p.C} {
 			kept := *list
 			*list = append(slices.Clone(kept), 1)
-			mustRefuseToSolve(t, p)
+			try(p)
 			if len(kept) > 0 {
 				*list = kept[:len(kept)-1]
-				mustRefuseToSolve(t, p)
+				try(p)
 				*list = nil
-				mustRefuseToSolve(t, p)
+				try(p)
 			}
 			*list = kept
 			for i := range kept {
 				for _, n := range []int{101, -101, 1 << 32, math.MaxInt, math.MinInt, math.MinInt + 1} {
 					kept[i] = n
-					mustRefuseToSolve(t, p)
+					try(p)
 				}
-				kept[i] = 1
+				kept[i] = -1
 			}
 		}
-		mustAnswer(t, p, bigAnswer(p))
+	}
+}
+
+// TestSolveWrongPrograms has programs that are not valid, and such that are with
+// the same sizes.
+func TestSolveWrongPrograms(t *testing.T) {
+	sizes := [][2]int{{0, 0}, {1, 1}, {2, 3}, {1, 40}, {20, 1}, {20, 40}}
+	eachWrongProgram(sizes, func(p impl.Program) { mustRefuseToSolve(t, p) })
+	for _, size := range sizes {
+		for _, n := range []int{1, -1} {
+			p := constantProgram(size[0], size[1], n)
+			mustAnswer(t, p, bigAnswer(p))
+		}
 	}
 }
 
