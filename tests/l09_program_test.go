@@ -12,13 +12,14 @@ import (
 	"loop.example/g00830/impl"
 )
 
-// brief is the start of the text of a value, for messages about long lists.
+// brief is the start of the text of a value, for messages about long lists. The
+// text of a failing run stays readable also where a name is no UTF-8.
 func brief(value any) string {
 	text := fmt.Sprint(value)
 	if len(text) > 300 {
-		return text[:300] + ".."
+		text = text[:300] + ".."
 	}
-	return text
+	return strings.ToValidUTF8(text, "?")
 }
 
 // programOf is a program with these lists, whether or not they fit.
